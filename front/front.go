@@ -5,6 +5,7 @@ import (
 	"slim/api"
 	"slim/parts"
 	"slim/show"
+	"slim/types"
 	"slim/words"
 )
 
@@ -24,7 +25,17 @@ func (c *Compiler) Show(src string) (string, api.Errno, int) {
 }
 
 // Infer tells the names that a text binds, and their types, or the first error and where (P7).
-func (c *Compiler) Infer(src string) (string, api.Errno, int) { return "", api.OK, 0 }
+func (c *Compiler) Infer(src string) (string, api.Errno, int) {
+	tree, err, at := treeOf(src)
+	if err != api.OK {
+		return "", err, at
+	}
+	names, err, at := types.Walk(tree)
+	if err != api.OK {
+		return "", err, at
+	}
+	return names.Text()
+}
 
 func treeOf(src string) (parts.Tree, api.Errno, int) {
 	list, err, at := words.Split(src)
