@@ -263,14 +263,31 @@ func byDemands(tree parts.Tree) (string, api.Errno, int) {
 type typist struct {
 	r     *rand.Rand
 	scope []told
+	busy  bool // with loops, longer lists and all signs
 }
 
 var someNames = strings.Fields("a b f x x")
 
 func (y *typist) name() string { return someNames[y.r.Intn(len(someNames))] }
 
+// some tells a number from least on, not much above it.
+func (y *typist) some(least int, most int) int {
+	if y.busy && y.r.Intn(4) == 0 {
+		return least + y.r.Intn(most-least+1)
+	}
+	return least + y.r.Intn(2)
+}
+
+func (y *typist) kinds(count int) []*term {
+	out := []*term{}
+	for len(out) < count {
+		out = append(out, y.kind(1))
+	}
+	return out
+}
+
 func (y *typist) kind(deep int) *term {
-	count := []int{0, 0, 0, 0, 0, 1, 2 + y.r.Intn(2), 2 + y.r.Intn(2)}
+	count := []int{0, 0, 0, 0, 0, 1, y.some(2, 6), y.some(2, 5)}
 	head := []string{"int", "int", "int", "bool", "unit", "array", "tuple", "function"}
 	i := y.r.Intn(len(head))
 	if deep <= 0 {
@@ -336,13 +353,16 @@ func (y *typist) text(kind *term, deep int) string {
 		names, list := y.bound([]*term{other})
 		return "(let " + list + " = " + of(other) + " in " + y.within(names, kind, deep) + ")"
 	case 1:
-		f := &term{"function", []*term{y.kind(1), y.kind(1), kind}}
-		names, list := y.bound(f.kids[:2])
+		if y.busy && y.r.Intn(2) == 0 {
+			return y.loop(kind, deep)
+		}
+		f := &term{"function", append(y.kinds(y.some(1, 4)), kind)}
+		names, list := y.bound(f.kids[:len(f.kids)-1])
 		itself := told{name: y.name(), kind: f}
 		body := y.within(append([]told{itself}, names...), kind, deep)
 		return "(let rec " + itself.name + " " + list + " = " + body + " in " + y.within([]told{itself}, kind, deep) + ")"
 	case 2:
-		other := &term{"tuple", []*term{y.kind(1), y.kind(1)}}
+		other := &term{"tuple", y.kinds(y.some(2, 6))}
 		names, list := y.bound(other.kids)
 		return "(let ( " + strings.ReplaceAll(list, " ", " , ") + " ) = " + of(other) + " in " + y.within(names, kind, deep) + ")"
 	case 3:
@@ -350,12 +370,39 @@ func (y *typist) text(kind *term, deep int) string {
 	case 4:
 		return "(" + of(plain("unit")) + " ; " + of(kind) + ")"
 	case 5, 6:
-		f := &term{"function", []*term{y.kind(1), kind}}
-		return "(" + of(f) + " " + of(f.kids[0]) + ")"
+		f := &term{"function", append(y.kinds(y.some(1, 4)), kind)}
+		out := "(" + of(f)
+		for _, kid := range f.kids[:len(f.kids)-1] {
+			out += " " + of(kid)
+		}
+		return out + ")"
 	case 7:
 		return of(&term{"array", []*term{kind}}) + " .( " + of(integer) + " )"
 	}
 	return y.made(kind, deep)
+}
+
+// loop makes a function that calls itself some times, last or not.
+func (y *typist) loop(kind *term, deep int) string {
+	carried := y.kind(1)
+	more := []told{{name: "f", kind: &term{"function", []*term{plain("int"), carried, kind}}}, {name: "n", kind: plain("int")}, {name: "x", kind: carried}}
+	end := y.within(more, kind, deep-1)
+	again := "(f (n - 1) " + y.within(more, carried, deep-1) + ")"
+	switch y.r.Intn(4) {
+	case 0:
+		names, list := y.bound([]*term{kind})
+		again = "(let " + list + " = " + again + " in " + y.within(append(more, names...), kind, deep-1) + ")"
+	case 1:
+		again = "(" + y.within(more, plain("unit"), deep-1) + " ; " + again + ")"
+	}
+	start := "f " + strconv.Itoa(y.r.Intn(12)) + " " + y.within(more[:1], carried, deep-1)
+	return "(let rec f n x = (if n < 1 then " + end + " else " + again + ") in " + start + ")"
+}
+
+// signed makes a text of two numbers and a sign, or of an operator.
+func (y *typist) signed(of func(*term) string, signs string) string {
+	list := strings.Fields(signs)
+	return "(" + of(plain("int")) + " " + list[y.r.Intn(len(list))] + " " + of(plain("int")) + ")"
 }
 
 // made makes a text in a way that its type alone has.
@@ -372,6 +419,9 @@ func (y *typist) made(kind *term, deep int) string {
 	case "bool":
 		if deep <= 0 {
 			return "true"
+		}
+		if y.busy && y.r.Intn(2) == 0 {
+			return y.signed(of, "= <> < <= > >=")
 		}
 		return []string{"(not " + of(kind) + ")", "(" + of(integer) + " < " + of(integer) + ")", "false"}[y.r.Intn(3)]
 	case "unit":
@@ -396,6 +446,9 @@ func (y *typist) made(kind *term, deep int) string {
 	}
 	if deep <= 0 {
 		return strconv.Itoa(y.r.Intn(9))
+	}
+	if y.busy && y.r.Intn(2) == 0 {
+		return y.signed(of, "+ - * / %")
 	}
 	list := &term{"array", []*term{y.kind(1)}}
 	return []string{"(" + of(kind) + " + " + of(kind) + ")", "(- " + of(kind) + ")", "(len " + of(list) + ")", "read"}[y.r.Intn(4)]

@@ -3,7 +3,9 @@ package front
 
 import (
 	"slim/api"
+	"slim/emit"
 	"slim/parts"
+	"slim/scope"
 	"slim/show"
 	"slim/types"
 	"slim/words"
@@ -13,7 +15,18 @@ import (
 type Compiler struct{}
 
 // Compile makes a text's code, or tells its first error and where (P8, P15).
-func (c *Compiler) Compile(src string) (string, api.Errno, int) { return "", api.OK, 0 }
+func (c *Compiler) Compile(src string) (string, api.Errno, int) {
+	tree, err, at := treeOf(src)
+	if err != api.OK {
+		return "", err, at
+	}
+	err, at = types.Fault(tree)
+	if err != api.OK {
+		return "", err, at
+	}
+	made := emit.Code(scope.Of(tree))
+	return made.Bytes(), api.OK, 0
+}
 
 // Show tells the shortest text, or the first error and where (P6).
 func (c *Compiler) Show(src string) (string, api.Errno, int) {

@@ -9,7 +9,7 @@ import (
 	"slim/words"
 )
 
-func walked(t *testing.T, src string) (Names, api.Errno, int) {
+func walkedText(t *testing.T, src string) (Names, api.Errno, int) {
 	t.Helper()
 	list, err, _ := words.Split(src)
 	if err != api.OK {
@@ -25,7 +25,7 @@ func walked(t *testing.T, src string) (Names, api.Errno, int) {
 // A type that is too big is none of Walk's errors: the demands are met.
 func TestWalk(t *testing.T) {
 	big := "let a=(1,1,1,1,1,1)in let b=(a,a,a,a,a,a)in "
-	names, err, at := walked(t, big+"1")
+	names, err, at := walkedText(t, big+"1")
 	if err != api.OK || at != 0 {
 		t.Errorf("P7: Walk is %d, %d", err, at)
 	}
@@ -33,7 +33,7 @@ func TestWalk(t *testing.T) {
 	if text != "" || err != api.ErrBig || at != 22 {
 		t.Errorf("P7: Text is %q, %d, %d", text, err, at)
 	}
-	names, err, at = walked(t, big+"b")
+	names, err, at = walkedText(t, big+"b")
 	if len(names.bindings) != 0 || err != api.ErrType || at != 0 {
 		t.Errorf("P7: Walk is %v, %d, %d", names, err, at)
 	}
@@ -49,7 +49,7 @@ func TestRoom(t *testing.T) {
 	for len(src) < api.MaxSrc-70 {
 		src += "let a=(a,a,a,a,a,a)in let b=(b,b,b,b,b,b)in "
 	}
-	names, err, at := walked(t, src+"let c=if true then a else b in 1")
+	names, err, at := walkedText(t, src+"let c=if true then a else b in 1")
 	if err != api.OK || at != 0 {
 		t.Errorf("P7: Walk is %d, %d", err, at)
 	}

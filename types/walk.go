@@ -25,12 +25,23 @@ type walker struct {
 
 // Walk makes a text's demands, in their order, and tells the names that it binds; or the first demand that cannot be met, and where.
 func Walk(tree parts.Tree) (Names, api.Errno, int) {
-	w := &walker{tree: tree}
-	w.isPlain(tree.Root(), -1, number)
+	w := walked(tree)
 	if w.err != api.OK {
 		return Names{}, w.err, w.at
 	}
 	return Names{graph: w.graph, bindings: w.bindings}, api.OK, 0
+}
+
+// Fault tells the first demand of a text that cannot be met, and where.
+func Fault(tree parts.Tree) (api.Errno, int) {
+	w := walked(tree)
+	return w.err, w.at
+}
+
+func walked(tree parts.Tree) *walker {
+	w := &walker{tree: tree}
+	w.isPlain(tree.Root(), -1, number)
+	return w
 }
 
 func (w *walker) fail(err api.Errno, at int) {
