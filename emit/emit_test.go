@@ -70,3 +70,18 @@ func TestOddTrees(t *testing.T) {
 		t.Errorf("a tree without nodes has the code %v", made)
 	}
 }
+
+// Bindings that no text has lie nowhere.
+func TestOddBindings(t *testing.T) {
+	f := newFrame()
+	for _, binding := range []int{-1, -1 << 63, api.MaxSrc, api.MaxSrc + 1, 1 << 62} {
+		f.settle(binding, 3, 2)
+		if got := f.homeOf(binding); got.slot != nowhere || got.field != nowhere {
+			t.Errorf("binding %d lies in %v", binding, got)
+		}
+	}
+	f.settle(api.MaxSrc-1, 3, 2)
+	if got := f.homeOf(api.MaxSrc - 1); got.slot != 3 || got.field != 2 {
+		t.Errorf("the last binding lies in %v", got)
+	}
+}

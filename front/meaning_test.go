@@ -43,6 +43,8 @@ type peak struct{ size, printed, read int }
 type meaning struct {
 	tree  parts.Tree
 	in    []int
+	next  int // the part that is looked at next
+	scope *binding
 	list  []waiting
 	depth int
 	marks int
@@ -82,22 +84,22 @@ func (s *binding) find(name string) thing {
 	return s.value
 }
 
-// meant evaluates a text, which takes so many steps at most.
-func meant(tree parts.Tree, in []int, most int) *meaning {
-	m := &meaning{tree: tree, in: in, depth: 1, calls: []peak{{1, 0, 0}}}
-	n, scope := tree.Root(), (*binding)(nil)
-	for !m.ended {
-		if m.steps >= most {
-			return m
-		}
-		v, next, inner := m.look(n, scope)
-		if next >= 0 {
-			n, scope = next, inner
-		} else {
-			n, scope = m.goOn(v)
-		}
-	}
+// meant evaluates a text, for so many steps at first.
+func meant(tree parts.Tree, in []int, steps int) *meaning {
+	m := &meaning{tree: tree, in: in, next: tree.Root(), depth: 1, calls: []peak{{1, 0, 0}}}
+	m.evaluate(steps)
 	return m
+}
+
+// evaluate goes on till the text ends, or has taken so many steps in all.
+func (m *meaning) evaluate(steps int) {
+	for !m.ended && m.steps < steps {
+		v, next, inner := m.look(m.next, m.scope)
+		if next < 0 {
+			next, inner = m.goOn(v)
+		}
+		m.next, m.scope = next, inner
+	}
 }
 
 // goOn hands a value to what waits, and tells what is looked at next.

@@ -178,6 +178,10 @@ func TestCompileCosts(t *testing.T) {
 		{"(let(x,y)=(array 3 1,2)in len x+y)+len(array 5 1)", 17, 1, 7},
 		{"(let x=array 5 1 in if 1<2 then 1 else x.(0))+len(array 5 1)", 14, 1, 6},
 		{"(let x=array 5 1 in if 2<1 then x.(0)else 1)+len(array 5 1)", 14, 1, 6},
+		{"(let x=array 5 1 in if 1<2 then()else print x.(0));len(array 5 1)", 14, 1, 6},
+		{"(let x=array 5 1 in if 2<1 then print x.(0)else());len(array 5 1)", 14, 1, 6},
+		{"(let x=array 5 1 in put x(len x-1)2);len(array 5 1)", 16, 1, 6},
+		{"print(let z=1 in let g=(let w=2 in let x=array 5 1 in fun y->x.(0)+w)in g z+z);len(array 5 1)", 30, 2, 10},
 		{"(fun a b->b)(array 5 1)(();2)+len(array 5 1)", 16, 2, 7},
 		{"len(array 5 1)+(let x=array 5 1 in(fun y->len(array 5 y))1)", 18, 2, 14},
 	} {

@@ -102,7 +102,7 @@ func TestKinds(t *testing.T) {
 }
 
 func TestSet(t *testing.T) {
-	odd := []int{-1, -64, -65, api.MaxSrc + 1000, 1 << 62, -1 << 63}
+	odd := []int{-1, -64, -65, (api.MaxSrc/wide + 1) * wide, api.MaxSrc + 1000, 1 << 62, -1 << 63}
 	s := Set{}
 	for _, binding := range append([]int{0, 63, 64, api.MaxSrc - 1}, odd...) {
 		s = s.With(binding)
@@ -145,6 +145,10 @@ func TestOddTrees(t *testing.T) {
 				}
 			}
 		}
+	}
+	nameless := []parts.Part{{Kind: parts.Num}, {Kind: parts.Name}, {Kind: parts.Let, Names: []string{"x"}, Kids: []int{0, 1}}}
+	if node := Of(parts.Tree{Parts: nameless}).Node(1); !reflect.DeepEqual(node.Binds, []int{Nobody}) {
+		t.Errorf("a name without a name means %v", node.Binds)
 	}
 	if tree := (Tree{}); tree.Root() != -1 || tree.Kid(0, 0) != -1 || tree.Node(-1).Kind != parts.None || tree.Node(0).Kind != parts.None {
 		t.Errorf("a tree without nodes has some")
