@@ -112,9 +112,13 @@ func TestCompileAny(t *testing.T) {
 func TestCompileSameParts(t *testing.T) {
 	for _, list := range [][]string{
 		{"1/2", " 1 / 2", "(1)/(2)", "((1/2))", "01(*/*)/002"},
+		{"1/0", " 1 / 0", "(1)/(0)", "((1/0))", "01(*/*)/000"},
+		{"read/2", " read / 2", "(read)/(2)", "((read/2))", "read(*/*)/002"},
 		{"let f=fun x y->x.(y)in f(array 2 1)1", "let f = ( fun x y -> (x) .( (y) ) ) in (f (array (2) (1)) (1))"},
+		{"let f=fun x y->x.(y)in f(array 2 1)read", "let f = ( fun x y -> (x) .( (y) ) ) in (f (array (2) (1)) (read))"},
 		{"print read;len(array 2 read)%3", "(print(read));(((len(array(2)(read)))%3))"},
 		{"let a=array 1 1 in put a 0 2;1", "let a=(array 1 1)in((put a 0 2);1)"},
+		{"let a=array 1 1 in put a read 2;1", "let a=(array 1 1)in((put a(read)2);1)"},
 		{"1+2+3*4", "((1+2)+(3*4))"},
 	} {
 		first := listed(t, list[0])
@@ -188,8 +192,9 @@ func TestCompileLarge(t *testing.T) {
 		strings.Repeat("let rec f a b c d=1 in ", 17) + "1",
 	} {
 		in := []int{1, 2, 3, 4, 5, 6, 7, 8, 9, 10, 11, 12, 13, 14, 15, 16}
-		c := tried(t, src, in, 5000)
-		c.holds(t, api.MaxHeap, api.MaxDepth, 5000)
-		c.enough(t)
+		for _, c := range tried(t, src, in, 5000).both(t) {
+			c.holds(t, api.MaxHeap, api.MaxDepth, 5000)
+			c.enough(t)
+		}
 	}
 }

@@ -2,6 +2,7 @@
 package front
 
 import (
+	"slim/ahead"
 	"slim/api"
 	"slim/emit"
 	"slim/parts"
@@ -14,7 +15,7 @@ import (
 // Compiler turns texts into codes.
 type Compiler struct{}
 
-// Compile makes a text's code, or tells its first error and where (P8, P15).
+// Compile makes a text's code, or tells its first error and where (P8, P14 to P16).
 func (c *Compiler) Compile(src string) (string, api.Errno, int) {
 	tree, err, at := treeOf(src)
 	if err != api.OK {
@@ -25,7 +26,8 @@ func (c *Compiler) Compile(src string) (string, api.Errno, int) {
 		return "", err, at
 	}
 	made := emit.Code(scope.Of(tree))
-	return made.Bytes(), api.OK, 0
+	left := ahead.Done(made)
+	return left.Bytes(), api.OK, 0
 }
 
 // Show tells the shortest text, or the first error and where (P6).

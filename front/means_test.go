@@ -18,13 +18,15 @@ type ended struct {
 
 func (c trial) endsAs(t *testing.T, want ended) {
 	t.Helper()
-	r := c.started(t, api.MaxHeap, api.MaxDepth).Go(20000)
-	got := ended{r.Err, r.Val + r.Pos, r.Out, r.Read}
-	if !reflect.DeepEqual(got, want) {
-		t.Errorf("P14: %q with %v: %+v, want %+v", c.src, c.in, got, want)
+	for _, c := range c.both(t) {
+		r := c.started(t, api.MaxHeap, api.MaxDepth).Go(20000)
+		got := ended{r.Err, r.Val + r.Pos, r.Out, r.Read}
+		if !reflect.DeepEqual(got, want) {
+			t.Errorf("P14: %q with %v: %+v, want %+v", c.src, c.in, got, want)
+		}
+		c.holds(t, api.MaxHeap, api.MaxDepth, 20000)
+		c.enough(t)
 	}
-	c.holds(t, api.MaxHeap, api.MaxDepth, 20000)
-	c.enough(t)
 }
 
 func TestCompileNumbers(t *testing.T) {
@@ -190,8 +192,10 @@ func TestCompileCosts(t *testing.T) {
 		if !reflect.DeepEqual(got, []int{c.steps, c.depth, c.words}) {
 			t.Errorf("P14: %q costs %v, want %v", c.src, got, c)
 		}
-		m.enough(t)
-		m.holds(t, max(0, 2*c.words-1), c.depth, 8*c.steps)
-		m.holds(t, 2*c.words, max(1, c.depth-1), 8*c.steps)
+		for _, m := range m.both(t) {
+			m.enough(t)
+			m.holds(t, max(0, 2*c.words-1), c.depth, 8*c.steps)
+			m.holds(t, 2*c.words, max(1, c.depth-1), 8*c.steps)
+		}
 	}
 }

@@ -43,10 +43,13 @@ func TestCompileRoom(t *testing.T) {
 			in = append(in, r.Intn(7)-1)
 		}
 		c := tried(t, src, in, 4000)
-		c.enough(t)
 		words, depth := 2*greatest(c.meaning.reach)+2, greatest(c.meaning.calls)
-		result := c.holds(t, min(r.Intn(words), api.MaxHeap), 1+min(r.Intn(depth), api.MaxDepth-1), 1000)
-		met[result.Err]++
+		words, depth = min(r.Intn(words), api.MaxHeap), 1+min(r.Intn(depth), api.MaxDepth-1)
+		for _, c := range c.both(t) {
+			c.enough(t)
+			result := c.holds(t, words, depth, 1000)
+			met[result.Err]++
+		}
 		if c.meaning.blocks > 1 {
 			made++
 		}

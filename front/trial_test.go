@@ -4,7 +4,9 @@ import (
 	"testing"
 
 	"slim/api"
+	"slim/emit"
 	"slim/parts"
+	"slim/scope"
 	"slim/slim"
 	"slim/words"
 )
@@ -31,6 +33,20 @@ func tried(t *testing.T, src string, in []int, steps int) trial {
 	list, _, _ := words.Split(src)
 	tree, _, _ := parts.Parse(list, api.MaxNest)
 	return trial{src, code, in, meant(tree, in, steps)}
+}
+
+// both: the text with its code; and, if that was made shorter (P16), with the lines as they were, which P14 and P15 hold for as well.
+func (c trial) both(t *testing.T) []trial {
+	t.Helper()
+	whole := c
+	whole.code = emit.Code(scope.Of(c.meaning.tree)).Bytes()
+	if whole.code == c.code {
+		return []trial{c}
+	}
+	if r := c.started(t, 0, 1).Go(2); r.Err != api.OK {
+		t.Fatalf("P16: %q leaves something to do, but %+v", c.src, r)
+	}
+	return []trial{c, whole}
 }
 
 func (c trial) started(t *testing.T, words, depth int) interface{ Go(int) api.Result } {
